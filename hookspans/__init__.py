@@ -1,0 +1,1 @@
+"""Webs of bars whose hooks sit anywhere within told spans."""
