@@ -1,8 +1,7 @@
 """Where the hooks of a web sit, and the corners of its spans."""
 
-from math import gcd
-
 from hookspans.errors import BadCount, BadPlace
+from hookspans.ratios import lowest
 
 
 class Places:
@@ -11,11 +10,7 @@ class Places:
     def __init__(self, numbers, parts):
         if parts < 1:
             raise BadCount("parts", parts)
-        common = parts
-        for number in numbers:
-            common = gcd(common, number)
-        self.numbers = tuple([number // common for number in numbers])
-        self.parts = parts // common
+        self.numbers, self.parts = lowest(numbers, parts)
 
     def __eq__(self, other):
         return type(self) is type(other) and (
@@ -43,14 +38,29 @@ def is_within(web, places):
 
 def corners(web):
     """List the places at which each hook is at an end of its span."""
-    rows = [()]
-    for bar in web.bars:
-        ends = _ends(bar)
-        rows = [row + (end,) for row in rows for end in ends]
-    return [Places(row, 1) for row in rows]
+    return [Places(row, 1) for row in corner_rows(web)]
 
 
-def _ends(bar):
+def corner_rows(web):
+    """List the numbers of the corners, which are whole places."""
+    return spread([ends(bar) for bar in web.bars])
+
+
+def ends(bar):
+    """List the ends of the span of a bar's hook."""
     if bar.least == bar.greatest:
         return [bar.least]
     return [bar.least, bar.greatest]
+
+
+def spread(choices):
+    """List the rows with one of each of the choices, the last turned soonest."""
+    rows = [()]
+    for choice in choices:
+        rows = [row + (number,) for row in rows for number in choice]
+    return rows
+
+
+def exchanged(row, at, number):
+    """Tell a row of numbers with another one where at points."""
+    return row[:at] + (number,) + row[at + 1:]

@@ -1,6 +1,6 @@
 """Bars and the webs that they make with rods."""
 
-from hookspans.errors import BadCount, BadSpan, NoRod, NotSquare, SameRod
+from hookspans.errors import BadCount, BadSpan, NoBar, NoRod, NotSquare, SameRod
 
 LEAST_RODS = 3
 MOST_RODS = 10
@@ -54,6 +54,12 @@ class Web:
             and self._held == other._held
             and self.bars == other.bars
         )
+
+
+def check_has_bar(web, bar):
+    """Refuse a number that is none of a bar of the web."""
+    if not 0 <= bar < len(web.bars):
+        raise NoBar(bar)
 
 
 def _check_rods(rods, held):

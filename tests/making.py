@@ -29,6 +29,31 @@ def fan(spans, length=10):
     return Web(len(spans) + 2, {0: 0, 1: 10}, bars)
 
 
+def ring(first=(0, 1), second=(0, 1), length=2):
+    """Rods 2 and 3 carry each other's bars; rod 0 is held at 0, 1 at 1.
+
+    With hooks at x and y the determinant is n n - x (n - y), the rods stand
+    at x y / (n n - x (n - y)) and n y / (n n - x (n - y)).
+    """
+    return Web(4, {0: 0, 1: 1}, [Bar(0, 3, 2, length, *first),
+                                 Bar(2, 1, 3, length, *second)])
+
+
+def beam(first, second, length=4, other=4):
+    """Bars on the hanging rods 2 and 3, their hooks on 0 and 1, held at 0, 12.
+
+    With hooks at x and y the determinant is n y - m x.
+    """
+    return Web(4, {0: 0, 1: 12}, [Bar(2, 3, 0, length, *first),
+                                  Bar(2, 3, 1, other, *second)])
+
+
+def astray(first=(1, 3), second=(0, 4)):
+    """A web whose rod 3 is on no bar: it is loose at all hooks."""
+    return Web(4, {0: 0, 1: 10}, [Bar(0, 1, 2, 4, *first),
+                                  Bar(1, 0, 2, 4, *second)])
+
+
 class Refusing(unittest.TestCase):
 
     def assert_refused(self, wanted, call, *row, **named):

@@ -6,6 +6,7 @@ import unittest
 
 from hookspans.errors import BadCount, BadPlace
 from hookspans.places import Places, check_places, corners, is_within
+from hookspans.stands import determinant, move, stand
 from hookspans.webs import Bar, Web
 
 from tests.making import Always, Refusing, fan, refusal_of
@@ -119,16 +120,16 @@ class TestPlaces(Refusing):
 
 class TestPlacesBesideAWeb(Refusing):
 
-    def both(self):
+    def calls(self):
         """What takes places along with a web."""
-        return (check_places, is_within)
+        return (check_places, is_within, determinant, stand, move)
 
     def test_too_few_and_too_many(self):
         for many in range(1, 9):
             web = fan([(2, 8)] * many)
             for count in set(range(10)) - {many}:
                 places = Places([5] * count, 1)
-                for call in self.both():
+                for call in self.calls():
                     with self.subTest(many=many, count=count):
                         self.assert_refused(BadCount("places", count),
                                             call, web, places)
@@ -140,7 +141,7 @@ class TestPlacesBesideAWeb(Refusing):
             for number in (-1, 10 * parts + 1, -parts, 11 * parts):
                 numbers = [5 * parts + 1] * many
                 numbers[at] = number
-                for call in self.both():
+                for call in self.calls():
                     with self.subTest(many=many, at=at, number=number):
                         self.assert_refused(BadPlace(at), call, web,
                                             Places(numbers, parts))
@@ -157,7 +158,7 @@ class TestPlacesBesideAWeb(Refusing):
         web = Web(4, {0: 0, 1: 1},
                   [Bar(0, 1, 2, 3, 0, 3), Bar(0, 1, 3, 100, 0, 100)])
         self.assertIs(is_within(web, Places([3, 100], 1)), True)
-        for call in self.both():
+        for call in self.calls():
             self.assert_refused(BadPlace(0), call, web, Places([4, 100], 1))
             self.assert_refused(BadPlace(1), call, web, Places([3, 101], 1))
 
@@ -166,7 +167,7 @@ class TestPlacesBesideAWeb(Refusing):
         cases = [([5, -1, 11, -1], 1), ([5, 5, 99, -1], 2), ([11, 5, 5, -9], 0),
                  ([0, 10, 5, -1], 3), ([-5, -5, -5, -5], 0)]
         for numbers, wanted in cases:
-            for call in self.both():
+            for call in self.calls():
                 with self.subTest(numbers=numbers):
                     self.assert_refused(BadPlace(wanted), call, web,
                                         Places(numbers, 1))
@@ -174,7 +175,7 @@ class TestPlacesBesideAWeb(Refusing):
     def test_count_ahead_of_place(self):
         web = fan([(2, 8)] * 2)
         for numbers in ([-1], [99], [-1, 5, 5], [5, 5, -1], [-1, -1, -1]):
-            for call in self.both():
+            for call in self.calls():
                 with self.subTest(numbers=numbers):
                     self.assert_refused(BadCount("places", len(numbers)),
                                         call, web, Places(numbers, 1))
