@@ -23,6 +23,11 @@ def fraction(top, bottom):
     return tops[0], shared
 
 
+def fractions(tops, bottom):
+    """List the tops over a shared bottom, each in lowest terms by itself."""
+    return [fraction(top, bottom) for top in tops]
+
+
 def is_less(one, other):
     """Tell whether one fraction is less than another."""
     return one[0] * other[1] < other[0] * one[1]

@@ -8,12 +8,24 @@ import subprocess
 import sys
 import unittest
 
+from hookspans.firmness import Firm, LooseAt
+from hookspans.places import Places
+from hookspans.reaches import reach
+from hookspans.webs import Bar, Web
+
 TOP = os.path.dirname(os.path.dirname(os.path.abspath(__file__)))
 PACKAGE = os.path.join(TOP, "hookspans")
 
 # The module, then what it defines with its arguments, and a class's methods.
 # A star ahead of an argument: it is handed in by its name alone.
 INTERFACE = {
+    "errors": {"BadCount": ["what", "count"], "NoRod": ["rod"],
+               "SameRod": ["rod"], "BadSpan": ["bar"],
+               "NotSquare": ["bars", "wanted"], "BadPlace": ["bar"],
+               "Loose": [], "NotLoose": [], "Beyond": ["least", "greatest"],
+               "NoBar": ["bar"], "NotHeld": ["rod"], "NoName": ["name"],
+               "NoWeb": ["name"], "NoBack": [], "BadRow": ["row"],
+               "HooksError": []},
     "webs": {"Bar": ["a", "b", "c", "length", "least", "greatest"],
              "Web": ["rods", "held", "bars"]},
     "places": {"Places": ["numbers", "parts"],
@@ -37,26 +49,85 @@ INTERFACE = {
               "Widening": ["least", "greatest", "is_least", "is_greatest"],
               "widen": ["web", "bar"],
               "hangs": ["web", "weights", "bar"]},
+    "leads": {"led": ["web", "heights", "*parts"]},
+    "book": {"Book": []},
+    "webtexts": {"web_rows": ["web"], "read_web": ["rows"],
+                 "fraction_text": ["fraction"], "places_text": ["places"]},
+    "desk": {"Desk": []},
 }
 METHODS = {"Bar": ["__eq__"], "Web": ["held", "hanging", "__eq__"],
            "Places": ["__eq__"], "Stand": ["__eq__"], "Firm": ["__eq__"],
-           "LooseAt": ["__eq__"], "Reach": ["__eq__"], "Widening": ["__eq__"]}
+           "LooseAt": ["__eq__"], "Reach": ["__eq__"], "Widening": ["__eq__"],
+           "Book": ["keep", "drop", "web", "names", "span", "claim", "claims",
+                    "broken", "many", "back"],
+           "Desk": ["tell"]}
+METHODS.update({name: ["told"] for name in INTERFACE["errors"]
+                if name != "HooksError"})
+
+# The methods that are handed something, with their arguments.
+HANDED = {"keep": ["name", "web"], "drop": ["name"], "web": ["name"],
+          "span": ["name", "bar", "least", "greatest"],
+          "claim": ["name", "weights", "least"], "tell": ["row"]}
 
 # What an argument behind a star is where it is not told.
-UNTOLD = {"inside": False, "low": None, "high": None}
+UNTOLD = {"inside": False, "low": None, "high": None, "parts": 1}
 
 # What the language lets in from outside, none of it a clock, chance or a file.
 OUTSIDE = {"math", "itertools", "heapq", "collections", "__future__"}
 BARRED = {"open", "input", "print", "hash", "id", "eval", "exec", "__import__"}
 
+BARS = [Bar(0, 1, 2, 10, 2, 8), Bar(0, 2, 3, 9, 1, 3)]
+WEB = Web(4, {0: 0, 1: 10}, BARS)
+PLACES = Places([7, 4], 2)
+LOOSE_PLACES = Places([2, 2], 1)
+LOOSE = Web(4, {0: 0, 1: 12}, [Bar(2, 3, 0, 4, 0, 3), Bar(2, 3, 1, 4, 1, 4)])
+WEIGHTS = [0, 0, 1, -1]
+REACH = reach(WEB, WEIGHTS)
+
+# What each that is handed something can be handed, in the order of arguments.
+CALLS = {
+    "Bar": (0, 1, 2, 10, 2, 8),
+    "Web": (4, {0: 0, 1: 10}, BARS),
+    "Places": ([7, 4], 2),
+    "is_within": (WEB, PLACES),
+    "corners": (WEB,),
+    "determinant": (WEB, PLACES),
+    "Stand": ([0, 10, 3], 2),
+    "stand": (WEB, PLACES),
+    "move": (LOOSE, LOOSE_PLACES),
+    "Firm": ([90, 90, 90, 90],),
+    "LooseAt": (LOOSE_PLACES, [0, 0, 1, 1]),
+    "firm": (LOOSE, True),
+    "is_firm": (WEB, Firm([90, 90, 90, 90]), True),
+    "is_loose": (LOOSE, LooseAt(LOOSE_PLACES, [0, 0, 1, -1]), True),
+    "Reach": ((1, 2), (3, 2), PLACES, LOOSE_PLACES),
+    "reach": (WEB, WEIGHTS),
+    "is_reach": (WEB, WEIGHTS, REACH),
+    "met": (WEB, WEIGHTS, (5, 1)),
+    "order": (WEB,),
+    "band": (WEB, WEIGHTS, 0, (2, 1), (5, 1)),
+    "Widening": ((0, 1), (5, 2), True, False),
+    "widen": (WEB, 1),
+    "hangs": (WEB, WEIGHTS, 1),
+    "led": (WEB, [0, 20, 7, 3], 2),
+    "web_rows": (WEB,),
+    "read_web": (["rods 3", "held 0 0", "held 1 1", "bar 0 1 2 4 1 2"],),
+    "fraction_text": ((-3, 2),),
+    "places_text": (PLACES,),
+}
+
 ASKED_TWICE = """
 from hookspans.bands import band, hangs, widen
+from hookspans.book import Book
+from hookspans.desk import Desk
 from hookspans.errors import BadCount
 from hookspans.firmness import firm
+from hookspans.leads import led
 from hookspans.places import Places, corners, is_within
 from hookspans.reaches import met, order, reach
 from hookspans.stands import determinant, move, stand
 from hookspans.webs import Bar, Web
+from hookspans.webtexts import places_text, read_web, web_rows
 web = Web(4, {1: 10, 0: 0}, [Bar(0, 1, 2, 10, 2, 8), Bar(0, 2, 3, 9, 1, 3)])
 print([corner.numbers for corner in corners(web)], web.held(), web.hanging())
 print(is_within(web, Places([7, 4], 2)), BadCount("rods", 2).told())
@@ -71,6 +142,19 @@ loose = Web(4, {1: 12, 0: 0}, [Bar(2, 3, 0, 4, 0, 3), Bar(2, 3, 1, 4, 1, 4)])
 for inside in (False, True):
     told = firm(loose, inside=inside)
     print(vars(told.places), told.moved, move(loose, told.places))
+print(led(web, [0, 20, 7, 3], parts=2), places_text(Places([7, 4], 2)))
+print(web_rows(web), read_web(web_rows(web)) == web)
+book = Book()
+for name in ("z", "a", "m1"):
+    book.keep(name, web)
+    print(book.claim(name, weights, (3, 2)), book.claim(name, weights, (1, 2)))
+book.span("m1", 1, 0, 9)
+book.drop("a")
+print(book.names(), book.claims(), book.broken(), book.many())
+desk = Desk()
+for row in ("keep a " + " ; ".join(web_rows(web)), "keep b " + web_rows(web)[0],
+            "order a", "claim a 9 6 0 0 1 -1", "names", "broken", "back", "x"):
+    print(desk.tell(row))
 """
 
 
@@ -101,21 +185,58 @@ class TestInterface(unittest.TestCase):
     def test_arguments_in_their_order(self):
         for module, name, arguments in self.listed():
             with self.subTest(name=name):
-                told = inspect.signature(getattr(module, name)).parameters
-                plain = [argument.strip("*") for argument in arguments]
-                self.assertEqual(list(told), plain)
-                for argument, one in zip(arguments, told.values()):
-                    starred = argument.startswith("*")
-                    self.assertIs(one.kind, one.KEYWORD_ONLY if starred
-                                  else one.POSITIONAL_OR_KEYWORD)
-                    self.assertIs(one.default, UNTOLD[one.name] if starred
-                                  else one.empty)
+                thing = getattr(module, name)
+                if arguments or module.__name__ != "hookspans.errors":
+                    self.assert_arguments(thing, arguments)
+                else:
+                    # Python tells no arguments of a class without __init__.
+                    self.assertNotIn("__init__", vars(thing))
+
+    def assert_arguments(self, call, arguments):
+        told = inspect.signature(call).parameters
+        plain = [argument.strip("*") for argument in arguments]
+        self.assertEqual(list(told), plain)
+        for argument, one in zip(arguments, told.values()):
+            starred = argument.startswith("*")
+            self.assertIs(one.kind, one.KEYWORD_ONLY if starred
+                          else one.POSITIONAL_OR_KEYWORD)
+            self.assertIs(one.default, UNTOLD[one.name] if starred
+                          else one.empty)
 
     def test_methods_stand_in_the_class_itself(self):
         for module, name, _ in self.listed():
             for method in METHODS.get(name, []):
                 with self.subTest(name=name, method=method):
                     self.assertIn(method, vars(getattr(module, name)))
+
+    def test_arguments_of_methods(self):
+        for module, name, _ in self.listed():
+            for method in METHODS.get(name, []):
+                if not method.startswith("__"):
+                    with self.subTest(name=name, method=method):
+                        self.assert_arguments(
+                            getattr(getattr(module, name), method),
+                            ["self"] + HANDED.get(method, []))
+
+    def test_all_by_their_names(self):
+        # Those of errors and of methods are called so in tests of their own.
+        handed = [(module, name, arguments)
+                  for module, name, arguments in self.listed()
+                  if arguments and module.__name__ != "hookspans.errors"]
+        self.assertEqual({name for _, name, _ in handed}, set(CALLS))
+        for module, name, arguments in handed:
+            call = getattr(module, name)
+            names = [argument.strip("*") for argument in arguments]
+            plain = len([name for name in arguments if not name.startswith("*")])
+            row = CALLS[name]
+            by_name = list(zip(names, row))
+            with self.subTest(name=name):
+                told = call(*row[:plain], **dict(by_name[plain:]))
+                self.assertIsNotNone(told)
+                self.assertEqual(call(**dict(reversed(by_name))), told)
+                if plain < len(row):
+                    with self.assertRaises(TypeError):
+                        call(*row)
 
 
 class TestNothingFromOutside(unittest.TestCase):
